@@ -88,8 +88,13 @@ func Places(m Mem) ([]Place, bool) {
 	if !validMem(m) {
 		return nil, false
 	}
-	places := addPlaces(nil, m, Place{Frame: 0, Level: topLevel, Page: 0})
+	places := placesOf(m)
 	return places, isTree(m, places)
+}
+
+// placesOf takes a valid memory only.
+func placesOf(m Mem) []Place {
+	return addPlaces(nil, m, Place{Frame: 0, Level: topLevel, Page: 0})
 }
 
 func formOf(w uint64) form {
@@ -166,6 +171,9 @@ func entryPages(level int) int {
 // goes a level down and no word of the last level is a table.
 func addPlaces(places []Place, m Mem, p Place) []Place {
 	places = append(places, p)
+	if p.Level == lastLevel {
+		return places
+	}
 	for i, w := range tableAt(m, p.Frame) {
 		d := Decode(p.Level, w)
 		if d.Kind == DTable && hasFrame(m, d.Out) {

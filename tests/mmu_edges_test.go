@@ -208,9 +208,9 @@ func TestMachinesNotValid(t *testing.T) {
 	}
 }
 
-// The last values that each condition still lets through.
-func TestMachinesJustValid(t *testing.T) {
-	rows := []machineRow{
+// justValid has the last values that each condition still lets through.
+func justValid() []machineRow {
+	return []machineRow{
 		{"as it is", func(m *impl.Machine) {}},
 		{"memory alone", func(m *impl.Machine) { *m = impl.Machine{Mem: m.Mem} }},
 		{"one frame", func(m *impl.Machine) { *m = impl.Machine{Mem: memOf(1)} }},
@@ -230,7 +230,10 @@ func TestMachinesJustValid(t *testing.T) {
 			m.Wc = []impl.Wc{{Level: 2, Page: 0, Table: 0}, {Level: 2, Page: 3840, Table: 5}, {Level: 3, Page: 0, Table: 0}, {Level: 3, Page: 4080, Table: 5}}
 		}},
 	}
-	for _, row := range rows {
+}
+
+func TestMachinesJustValid(t *testing.T) {
+	for _, row := range justValid() {
 		m := with(busyMachine(), row.spoil)
 		checkDrop(t, row.name, m, 2, 0, m)
 		checkFill(t, row.name, m, 2000, 0, m)
